@@ -52,3 +52,35 @@ func TestWordsArePutByVariadicFunctions(t *testing.T) {
 		}
 	}
 }
+
+// paramType answers the plain type of a function's parameter; nothing when it
+// has none of that name.
+func paramType(f *ast.FuncDecl, name string) string {
+	for _, p := range f.Type.Params.List {
+		for _, id := range p.Names {
+			if t, ok := p.Type.(*ast.Ident); ok && id.Name == name {
+				return t.Name
+			}
+		}
+	}
+	return ""
+}
+
+func TestSignsAreReadByARangeOverTheText(t *testing.T) {
+	f := funcsOf(t, "l02_uni.go")["Signs"]
+	if f == nil {
+		t.Fatal("there is no Signs")
+	}
+	found := false
+	ast.Inspect(f, func(n ast.Node) bool {
+		if r, ok := n.(*ast.RangeStmt); ok {
+			if id, ok := r.X.(*ast.Ident); ok && paramType(f, id.Name) == "string" {
+				found = true
+			}
+		}
+		return true
+	})
+	if !found {
+		t.Error("Signs has no range over its text")
+	}
+}
