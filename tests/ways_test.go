@@ -84,3 +84,59 @@ func TestSignsAreReadByARangeOverTheText(t *testing.T) {
 		t.Error("Signs has no range over its text")
 	}
 }
+
+// arraysOf answers the names of the tables of a file that are arrays.
+func arraysOf(t *testing.T, file string) map[string]bool {
+	t.Helper()
+	f, err := parser.ParseFile(token.NewFileSet(), "../impl/"+file, nil, parser.SkipObjectResolution)
+	if err != nil {
+		t.Fatal(err)
+	}
+	out := map[string]bool{}
+	ast.Inspect(f, func(n ast.Node) bool {
+		v, ok := n.(*ast.ValueSpec)
+		if !ok || len(v.Names) != 1 || len(v.Values) != 1 {
+			return true
+		}
+		if lit, ok := v.Values[0].(*ast.CompositeLit); ok {
+			if a, ok := lit.Type.(*ast.ArrayType); ok && a.Len != nil {
+				out[v.Names[0].Name] = true
+			}
+		}
+		return true
+	})
+	return out
+}
+
+// readsArray says whether a function, or one that it calls, reads one of the
+// arrays by an index.
+func readsArray(funcs map[string]*ast.FuncDecl, arrays map[string]bool, name string, seen map[string]bool) bool {
+	if funcs[name] == nil || seen[name] {
+		return false
+	}
+	seen[name] = true
+	found := false
+	ast.Inspect(funcs[name], func(n ast.Node) bool {
+		switch x := n.(type) {
+		case *ast.IndexExpr:
+			if id, ok := x.X.(*ast.Ident); ok && arrays[id.Name] {
+				found = true
+			}
+		case *ast.CallExpr:
+			if id, ok := x.Fun.(*ast.Ident); ok && readsArray(funcs, arrays, id.Name, seen) {
+				found = true
+			}
+		}
+		return true
+	})
+	return found
+}
+
+func TestWhatAByteStandsForIsAnArray(t *testing.T) {
+	file := "l03_set.go"
+	for _, name := range []string{"ByteSign", "SignByte"} {
+		if !readsArray(funcsOf(t, file), arraysOf(t, file), name, map[string]bool{}) {
+			t.Error(name, "reads no array")
+		}
+	}
+}
