@@ -140,3 +140,20 @@ func TestWhatAByteStandsForIsAnArray(t *testing.T) {
 		}
 	}
 }
+
+func TestWhatIsReadFallsThroughToTwoBytes(t *testing.T) {
+	f := funcsOf(t, "l04_euc.go")["EucSign"]
+	if f == nil {
+		t.Fatal("there is no EucSign")
+	}
+	found := false
+	ast.Inspect(f, func(n ast.Node) bool {
+		if b, ok := n.(*ast.BranchStmt); ok && b.Tok == token.FALLTHROUGH {
+			found = true
+		}
+		return true
+	})
+	if !found {
+		t.Error("EucSign has no fallthrough")
+	}
+}
