@@ -157,3 +157,71 @@ func TestWhatIsReadFallsThroughToTwoBytes(t *testing.T) {
 		t.Error("EucSign has no fallthrough")
 	}
 }
+
+// marksOf answers, of a file, the interfaces with methods and the types that
+// have methods, by their names.
+func marksOf(t *testing.T, file string) (faces map[string]bool, kinds map[string]bool) {
+	t.Helper()
+	f, err := parser.ParseFile(token.NewFileSet(), "../impl/"+file, nil, parser.SkipObjectResolution)
+	if err != nil {
+		t.Fatal(err)
+	}
+	faces, kinds = map[string]bool{}, map[string]bool{}
+	ast.Inspect(f, func(n ast.Node) bool {
+		switch x := n.(type) {
+		case *ast.TypeSpec:
+			if i, ok := x.Type.(*ast.InterfaceType); ok && len(i.Methods.List) > 0 {
+				faces[x.Name.Name] = true
+			}
+		case *ast.FuncDecl:
+			if x.Recv != nil {
+				if id, ok := x.Recv.List[0].Type.(*ast.Ident); ok {
+					kinds[id.Name] = true
+				}
+			}
+		}
+		return true
+	})
+	return faces, kinds
+}
+
+// kindsTold answers how many of these kinds the type switches of a function, and
+// of those that it calls, tell.
+func kindsTold(funcs map[string]*ast.FuncDecl, kinds map[string]bool, name string, seen map[string]bool) int {
+	if funcs[name] == nil || seen[name] {
+		return 0
+	}
+	seen[name] = true
+	told := 0
+	ast.Inspect(funcs[name], func(n ast.Node) bool {
+		switch x := n.(type) {
+		case *ast.TypeSwitchStmt:
+			for _, c := range x.Body.List {
+				for _, e := range c.(*ast.CaseClause).List {
+					if id, ok := e.(*ast.Ident); ok && kinds[id.Name] {
+						told++
+					}
+				}
+			}
+		case *ast.CallExpr:
+			if id, ok := x.Fun.(*ast.Ident); ok {
+				told += kindsTold(funcs, kinds, id.Name, seen)
+			}
+		}
+		return true
+	})
+	return told
+}
+
+func TestKindsOfSetsAreToldByATypeSwitch(t *testing.T) {
+	file := "l05_code.go"
+	faces, kinds := marksOf(t, file)
+	if len(faces) == 0 || len(kinds) < 3 {
+		t.Fatalf("%d interfaces, and types of %d kinds", len(faces), len(kinds))
+	}
+	for _, name := range []string{"Decode", "Encode", "DecodeLossy", "EncodeLossy", "Fits"} {
+		if told := kindsTold(funcsOf(t, file), kinds, name, map[string]bool{}); told < len(kinds) {
+			t.Errorf("%s tells %d of %d kinds", name, told, len(kinds))
+		}
+	}
+}
