@@ -225,3 +225,63 @@ func TestKindsOfSetsAreToldByATypeSwitch(t *testing.T) {
 		}
 	}
 }
+
+// heldBy answers how many of the names of a function's lists of bytes its
+// function literals write.
+func heldBy(f *ast.FuncDecl) int {
+	held := 0
+	ast.Inspect(f, func(n ast.Node) bool {
+		lit, ok := n.(*ast.FuncLit)
+		if !ok {
+			return true
+		}
+		ast.Inspect(lit.Body, func(n ast.Node) bool {
+			if a, ok := n.(*ast.AssignStmt); ok && a.Tok == token.ASSIGN {
+				for _, e := range a.Lhs {
+					if id, ok := e.(*ast.Ident); ok && isByteList(f, id.Name) {
+						held++
+					}
+				}
+			}
+			return true
+		})
+		return false
+	})
+	return held
+}
+
+// isByteList says whether a function has a parameter of that name that is a
+// list of bytes.
+func isByteList(f *ast.FuncDecl, name string) bool {
+	for _, p := range f.Type.Params.List {
+		a, ok := p.Type.(*ast.ArrayType)
+		if !ok || a.Len != nil {
+			continue
+		}
+		for _, id := range p.Names {
+			if elt, ok := a.Elt.(*ast.Ident); ok && elt.Name == "byte" && id.Name == name {
+				return true
+			}
+		}
+	}
+	return false
+}
+
+func TestWhatIsReadOfAPartIsAClosure(t *testing.T) {
+	funcs := funcsOf(t, "l06_stream.go")
+	if funcs["Feed"] == nil {
+		t.Fatal("there is no Feed")
+	}
+	held := 0
+	ast.Inspect(funcs["Feed"], func(n ast.Node) bool {
+		if c, ok := n.(*ast.CallExpr); ok {
+			if id, ok := c.Fun.(*ast.Ident); ok && funcs[id.Name] != nil {
+				held += heldBy(funcs[id.Name])
+			}
+		}
+		return true
+	})
+	if held == 0 {
+		t.Error("Feed calls nothing that makes a closure which holds what was begun")
+	}
+}
