@@ -285,3 +285,55 @@ func TestWhatIsReadOfAPartIsAClosure(t *testing.T) {
 		t.Error("Feed calls nothing that makes a closure which holds what was begun")
 	}
 }
+
+// handsOut says whether a function is an iterator: its one parameter is a
+// function that it calls.
+func handsOut(f *ast.FuncDecl) bool {
+	if f == nil || f.Type.Params.NumFields() != 1 || len(f.Type.Params.List[0].Names) != 1 {
+		return false
+	}
+	p := f.Type.Params.List[0]
+	if _, ok := p.Type.(*ast.FuncType); !ok {
+		return false
+	}
+	called := false
+	ast.Inspect(f.Body, func(n ast.Node) bool {
+		if c, ok := n.(*ast.CallExpr); ok {
+			if id, ok := c.Fun.(*ast.Ident); ok && id.Name == p.Names[0].Name {
+				called = true
+			}
+		}
+		return true
+	})
+	return called
+}
+
+// rangesOverIterator says whether a function, or one that it calls, ranges over
+// an iterator.
+func rangesOverIterator(funcs map[string]*ast.FuncDecl, name string, seen map[string]bool) bool {
+	if funcs[name] == nil || seen[name] {
+		return false
+	}
+	seen[name] = true
+	found := false
+	ast.Inspect(funcs[name], func(n ast.Node) bool {
+		switch x := n.(type) {
+		case *ast.RangeStmt:
+			if id, ok := x.X.(*ast.Ident); ok && handsOut(funcs[id.Name]) {
+				found = true
+			}
+		case *ast.CallExpr:
+			if id, ok := x.Fun.(*ast.Ident); ok && rangesOverIterator(funcs, id.Name, seen) {
+				found = true
+			}
+		}
+		return true
+	})
+	return found
+}
+
+func TestSetsComeOutOfAnIterator(t *testing.T) {
+	if !rangesOverIterator(funcsOf(t, "l07_detect.go"), "Detect", map[string]bool{}) {
+		t.Error("Detect ranges over no iterator")
+	}
+}
