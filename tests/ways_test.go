@@ -7,13 +7,20 @@ import (
 	"testing"
 )
 
-// funcsOf answers the functions of a file of the program, by their names.
-func funcsOf(t *testing.T, file string) map[string]*ast.FuncDecl {
+// fileOf answers a file of the program.
+func fileOf(t *testing.T, file string) *ast.File {
 	t.Helper()
 	f, err := parser.ParseFile(token.NewFileSet(), "../impl/"+file, nil, parser.SkipObjectResolution)
 	if err != nil {
 		t.Fatal(err)
 	}
+	return f
+}
+
+// funcsOf answers the functions of a file of the program, by their names.
+func funcsOf(t *testing.T, file string) map[string]*ast.FuncDecl {
+	t.Helper()
+	f := fileOf(t, file)
 	out := map[string]*ast.FuncDecl{}
 	for _, d := range f.Decls {
 		if x, ok := d.(*ast.FuncDecl); ok {
@@ -88,10 +95,7 @@ func TestSignsAreReadByARangeOverTheText(t *testing.T) {
 // arraysOf answers the names of the tables of a file that are arrays.
 func arraysOf(t *testing.T, file string) map[string]bool {
 	t.Helper()
-	f, err := parser.ParseFile(token.NewFileSet(), "../impl/"+file, nil, parser.SkipObjectResolution)
-	if err != nil {
-		t.Fatal(err)
-	}
+	f := fileOf(t, file)
 	out := map[string]bool{}
 	ast.Inspect(f, func(n ast.Node) bool {
 		v, ok := n.(*ast.ValueSpec)
@@ -162,10 +166,7 @@ func TestWhatIsReadFallsThroughToTwoBytes(t *testing.T) {
 // have methods, by their names.
 func marksOf(t *testing.T, file string) (faces map[string]bool, kinds map[string]bool) {
 	t.Helper()
-	f, err := parser.ParseFile(token.NewFileSet(), "../impl/"+file, nil, parser.SkipObjectResolution)
-	if err != nil {
-		t.Fatal(err)
-	}
+	f := fileOf(t, file)
 	faces, kinds = map[string]bool{}, map[string]bool{}
 	ast.Inspect(f, func(n ast.Node) bool {
 		switch x := n.(type) {
@@ -335,5 +336,56 @@ func rangesOverIterator(funcs map[string]*ast.FuncDecl, name string, seen map[st
 func TestSetsComeOutOfAnIterator(t *testing.T) {
 	if !rangesOverIterator(funcsOf(t, "l07_detect.go"), "Detect", map[string]bool{}) {
 		t.Error("Detect ranges over no iterator")
+	}
+}
+
+// genericsOf answers the names of the generic types of a file.
+func genericsOf(t *testing.T, file string) map[string]bool {
+	t.Helper()
+	f := fileOf(t, file)
+	out := map[string]bool{}
+	ast.Inspect(f, func(n ast.Node) bool {
+		if x, ok := n.(*ast.TypeSpec); ok && x.TypeParams != nil {
+			out[x.Name.Name] = true
+		}
+		return true
+	})
+	return out
+}
+
+// answersGeneric says whether a function calls one that answers a value of one
+// of these types.
+func answersGeneric(funcs map[string]*ast.FuncDecl, generics map[string]bool, name string) bool {
+	if funcs[name] == nil {
+		return false
+	}
+	found := false
+	ast.Inspect(funcs[name], func(n ast.Node) bool {
+		c, ok := n.(*ast.CallExpr)
+		if !ok {
+			return true
+		}
+		id, ok := c.Fun.(*ast.Ident)
+		if !ok || funcs[id.Name] == nil || funcs[id.Name].Type.Results == nil {
+			return true
+		}
+		for _, r := range funcs[id.Name].Type.Results.List {
+			if x, ok := r.Type.(*ast.IndexExpr); ok {
+				if kind, ok := x.X.(*ast.Ident); ok && generics[kind.Name] {
+					found = true
+				}
+			}
+		}
+		return true
+	})
+	return found
+}
+
+func TestWhatACellSaysIsHeldInAGenericType(t *testing.T) {
+	file := "l08_cell.go"
+	for _, name := range []string{"CellText", "Turn", "SameText"} {
+		if !answersGeneric(funcsOf(t, file), genericsOf(t, file), name) {
+			t.Error(name, "asks for nothing that a generic type holds")
+		}
 	}
 }
