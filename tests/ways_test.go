@@ -112,34 +112,50 @@ func arraysOf(t *testing.T, file string) map[string]bool {
 	return out
 }
 
+// reaches says whether a function, or one that it calls, has a part that is as
+// asked.
+func reaches(funcs map[string]*ast.FuncDecl, name string, asked func(n ast.Node) bool) bool {
+	seen := map[string]bool{}
+	var walk func(name string) bool
+	walk = func(name string) bool {
+		if funcs[name] == nil || seen[name] {
+			return false
+		}
+		seen[name] = true
+		found := false
+		ast.Inspect(funcs[name], func(n ast.Node) bool {
+			if asked(n) {
+				found = true
+			}
+			if c, ok := n.(*ast.CallExpr); ok {
+				if id, ok := c.Fun.(*ast.Ident); ok && walk(id.Name) {
+					found = true
+				}
+			}
+			return true
+		})
+		return found
+	}
+	return walk(name)
+}
+
 // readsArray says whether a function, or one that it calls, reads one of the
 // arrays by an index.
-func readsArray(funcs map[string]*ast.FuncDecl, arrays map[string]bool, name string, seen map[string]bool) bool {
-	if funcs[name] == nil || seen[name] {
-		return false
-	}
-	seen[name] = true
-	found := false
-	ast.Inspect(funcs[name], func(n ast.Node) bool {
-		switch x := n.(type) {
-		case *ast.IndexExpr:
-			if id, ok := x.X.(*ast.Ident); ok && arrays[id.Name] {
-				found = true
-			}
-		case *ast.CallExpr:
-			if id, ok := x.Fun.(*ast.Ident); ok && readsArray(funcs, arrays, id.Name, seen) {
-				found = true
-			}
+func readsArray(funcs map[string]*ast.FuncDecl, arrays map[string]bool, name string) bool {
+	return reaches(funcs, name, func(n ast.Node) bool {
+		x, ok := n.(*ast.IndexExpr)
+		if !ok {
+			return false
 		}
-		return true
+		id, ok := x.X.(*ast.Ident)
+		return ok && arrays[id.Name]
 	})
-	return found
 }
 
 func TestWhatAByteStandsForIsAnArray(t *testing.T) {
 	file := "l03_set.go"
 	for _, name := range []string{"ByteSign", "SignByte"} {
-		if !readsArray(funcsOf(t, file), arraysOf(t, file), name, map[string]bool{}) {
+		if !readsArray(funcsOf(t, file), arraysOf(t, file), name) {
 			t.Error(name, "reads no array")
 		}
 	}
@@ -311,30 +327,19 @@ func handsOut(f *ast.FuncDecl) bool {
 
 // rangesOverIterator says whether a function, or one that it calls, ranges over
 // an iterator.
-func rangesOverIterator(funcs map[string]*ast.FuncDecl, name string, seen map[string]bool) bool {
-	if funcs[name] == nil || seen[name] {
-		return false
-	}
-	seen[name] = true
-	found := false
-	ast.Inspect(funcs[name], func(n ast.Node) bool {
-		switch x := n.(type) {
-		case *ast.RangeStmt:
-			if id, ok := x.X.(*ast.Ident); ok && handsOut(funcs[id.Name]) {
-				found = true
-			}
-		case *ast.CallExpr:
-			if id, ok := x.Fun.(*ast.Ident); ok && rangesOverIterator(funcs, id.Name, seen) {
-				found = true
-			}
+func rangesOverIterator(funcs map[string]*ast.FuncDecl, name string) bool {
+	return reaches(funcs, name, func(n ast.Node) bool {
+		x, ok := n.(*ast.RangeStmt)
+		if !ok {
+			return false
 		}
-		return true
+		id, ok := x.X.(*ast.Ident)
+		return ok && handsOut(funcs[id.Name])
 	})
-	return found
 }
 
 func TestSetsComeOutOfAnIterator(t *testing.T) {
-	if !rangesOverIterator(funcsOf(t, "l07_detect.go"), "Detect", map[string]bool{}) {
+	if !rangesOverIterator(funcsOf(t, "l07_detect.go"), "Detect") {
 		t.Error("Detect ranges over no iterator")
 	}
 }
@@ -386,6 +391,58 @@ func TestWhatACellSaysIsHeldInAGenericType(t *testing.T) {
 	for _, name := range []string{"CellText", "Turn", "SameText"} {
 		if !answersGeneric(funcsOf(t, file), genericsOf(t, file), name) {
 			t.Error(name, "asks for nothing that a generic type holds")
+		}
+	}
+}
+
+// structsOf answers the names of the structs of a file.
+func structsOf(t *testing.T, file string) map[string]bool {
+	t.Helper()
+	f := fileOf(t, file)
+	out := map[string]bool{}
+	ast.Inspect(f, func(n ast.Node) bool {
+		if x, ok := n.(*ast.TypeSpec); ok {
+			if _, ok := x.Type.(*ast.StructType); ok {
+				out[x.Name.Name] = true
+			}
+		}
+		return true
+	})
+	return out
+}
+
+// isStruct says whether a value is written as one of these structs, or is what a
+// function answers that answers one.
+func isStruct(funcs map[string]*ast.FuncDecl, structs map[string]bool, e ast.Expr) bool {
+	switch x := e.(type) {
+	case *ast.CompositeLit:
+		id, ok := x.Type.(*ast.Ident)
+		return ok && structs[id.Name]
+	case *ast.CallExpr:
+		id, ok := x.Fun.(*ast.Ident)
+		if !ok || funcs[id.Name] == nil || funcs[id.Name].Type.Results.NumFields() != 1 {
+			return false
+		}
+		kind, ok := funcs[id.Name].Type.Results.List[0].Type.(*ast.Ident)
+		return ok && structs[kind.Name]
+	}
+	return false
+}
+
+// comparesStructs says whether a function, or one that it calls, compares values
+// of these structs.
+func comparesStructs(funcs map[string]*ast.FuncDecl, structs map[string]bool, name string) bool {
+	return reaches(funcs, name, func(n ast.Node) bool {
+		x, ok := n.(*ast.BinaryExpr)
+		return ok && (x.Op == token.EQL || x.Op == token.NEQ) && isStruct(funcs, structs, x.X) && isStruct(funcs, structs, x.Y)
+	})
+}
+
+func TestCellsAreComparedAsStructs(t *testing.T) {
+	file := "l09_row.go"
+	for _, name := range []string{"RowOk", "FillRow", "CutRow", "BackRow"} {
+		if !comparesStructs(funcsOf(t, file), structsOf(t, file), name) {
+			t.Error(name, "compares no structs")
 		}
 	}
 }
