@@ -446,3 +446,45 @@ func TestCellsAreComparedAsStructs(t *testing.T) {
 		}
 	}
 }
+
+// answersMap says whether a function answers a map whose keys are numbers.
+func answersMap(f *ast.FuncDecl) bool {
+	if f == nil || f.Type.Results == nil {
+		return false
+	}
+	for _, r := range f.Type.Results.List {
+		if m, ok := r.Type.(*ast.MapType); ok {
+			key, ok := m.Key.(*ast.Ident)
+			return ok && key.Name == "int"
+		}
+	}
+	return false
+}
+
+// callsOne says whether a part is a call of a function whose name is as asked.
+func callsOne(n ast.Node, asked func(name string) bool) bool {
+	c, ok := n.(*ast.CallExpr)
+	if !ok {
+		return false
+	}
+	id, ok := c.Fun.(*ast.Ident)
+	return ok && asked(id.Name)
+}
+
+func TestWhatIsInTheCacheStandsInAMapAndIsDeletedWhenItIsFlushed(t *testing.T) {
+	funcs := funcsOf(t, "l10_dev.go")
+	for _, name := range []string{"ReadSec", "FlushDev", "FallDev"} {
+		if !reaches(funcs, name, func(n ast.Node) bool {
+			return callsOne(n, func(name string) bool { return answersMap(funcs[name]) })
+		}) {
+			t.Error(name, "asks for no map")
+		}
+	}
+	for _, name := range []string{"FlushDev", "FallDev"} {
+		if !reaches(funcs, name, func(n ast.Node) bool {
+			return callsOne(n, func(name string) bool { return name == "delete" })
+		}) {
+			t.Error(name, "deletes nothing")
+		}
+	}
+}
