@@ -127,16 +127,26 @@ func reaches(funcs map[string]*ast.FuncDecl, name string, asked func(n ast.Node)
 			if asked(n) {
 				found = true
 			}
-			if c, ok := n.(*ast.CallExpr); ok {
-				if id, ok := c.Fun.(*ast.Ident); ok && walk(id.Name) {
-					found = true
-				}
+			if c, ok := n.(*ast.CallExpr); ok && walk(calledName(c)) {
+				found = true
 			}
 			return true
 		})
 		return found
 	}
 	return walk(name)
+}
+
+// calledName answers the name of the function or method that is called; nothing
+// when it has none.
+func calledName(c *ast.CallExpr) string {
+	switch x := c.Fun.(type) {
+	case *ast.Ident:
+		return x.Name
+	case *ast.SelectorExpr:
+		return x.Sel.Name
+	}
+	return ""
 }
 
 // readsArray says whether a function, or one that it calls, reads one of the
@@ -485,6 +495,46 @@ func TestWhatIsInTheCacheStandsInAMapAndIsDeletedWhenItIsFlushed(t *testing.T) {
 			return callsOne(n, func(name string) bool { return name == "delete" })
 		}) {
 			t.Error(name, "deletes nothing")
+		}
+	}
+}
+
+// recovers says whether a function itself defers a function literal that calls
+// recover.
+func recovers(f *ast.FuncDecl) bool {
+	found := false
+	for _, s := range f.Body.List {
+		d, ok := s.(*ast.DeferStmt)
+		if !ok {
+			continue
+		}
+		lit, ok := d.Call.Fun.(*ast.FuncLit)
+		if !ok {
+			continue
+		}
+		ast.Inspect(lit.Body, func(n ast.Node) bool {
+			if n != nil && callsOne(n, func(name string) bool { return name == "recover" }) {
+				found = true
+			}
+			return true
+		})
+	}
+	return found
+}
+
+func TestWhatCannotBeReadGivesUpByAPanicThatTheFaceCatches(t *testing.T) {
+	funcs := funcsOf(t, "l11_rec.go")
+	for _, name := range []string{"GetRow", "GetRec"} {
+		if funcs[name] == nil {
+			t.Fatal("there is no", name)
+		}
+		if !recovers(funcs[name]) {
+			t.Error(name, "recovers nothing")
+		}
+		if !reaches(funcs, name, func(n ast.Node) bool {
+			return callsOne(n, func(name string) bool { return name == "panic" })
+		}) {
+			t.Error(name, "never panics")
 		}
 	}
 }
