@@ -753,24 +753,10 @@ func textsOf(d impl.Dev) [][]byte {
 	return l
 }
 
-// checkApart fails when two lists of bytes of a device share memory: each is
-// filled with a number of its own, and has to have it when all are.
+// checkApart fails when two lists of bytes of a device share memory.
 func checkApart(t *testing.T, name string, d impl.Dev) {
 	t.Helper()
-	l := textsOf(d)
-	for i, b := range l {
-		for k := range b[:cap(b)] {
-			b[:cap(b)][k] = byte(i)
-		}
-	}
-	for i, b := range l {
-		for _, x := range b[:cap(b)] {
-			if x != byte(i) {
-				t.Errorf("%s: two lists share memory", name)
-				return
-			}
-		}
-	}
+	checkTextsApart(t, name, textsOf(d))
 }
 
 // checkNothingBehind fails when a device hands out more behind its lists than

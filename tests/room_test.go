@@ -40,3 +40,22 @@ func checkRoom(t *testing.T, name string, s string, call func(b []byte) []byte) 
 		t.Errorf("%s of %x: the argument goes with the answer: %x", name, s, whole)
 	}
 }
+
+// checkTextsApart fails when two lists of bytes share memory: each is filled with
+// a number of its own, and has to have it when all are.
+func checkTextsApart(t *testing.T, name string, l [][]byte) {
+	t.Helper()
+	for i, b := range l {
+		for k := range b[:cap(b)] {
+			b[:cap(b)][k] = byte(i)
+		}
+	}
+	for i, b := range l {
+		for _, c := range b[:cap(b)] {
+			if c != byte(i) {
+				t.Errorf("%s: two lists share memory", name)
+				return
+			}
+		}
+	}
+}

@@ -538,3 +538,36 @@ func TestWhatCannotBeReadGivesUpByAPanicThatTheFaceCatches(t *testing.T) {
 		}
 	}
 }
+
+// answersRows says whether a function answers a list of rows.
+func answersRows(f *ast.FuncDecl) bool {
+	if f == nil || f.Type.Results == nil {
+		return false
+	}
+	for _, r := range f.Type.Results.List {
+		if a, ok := r.Type.(*ast.ArrayType); ok && a.Len == nil {
+			elt, ok := a.Elt.(*ast.Ident)
+			return ok && elt.Name == "Row"
+		}
+	}
+	return false
+}
+
+func TestRowsAreCopiedByCopy(t *testing.T) {
+	funcs := funcsOf(t, "l12_tab.go")
+	copies := func(f *ast.FuncDecl) bool {
+		found := false
+		ast.Inspect(f, func(n ast.Node) bool {
+			found = found || callsOne(n, func(name string) bool { return name == "copy" })
+			return true
+		})
+		return found
+	}
+	for _, name := range []string{"Apply", "RecsOf"} {
+		if !reaches(funcs, name, func(n ast.Node) bool {
+			return callsOne(n, func(name string) bool { return answersRows(funcs[name]) && copies(funcs[name]) })
+		}) {
+			t.Error(name, "copies no rows")
+		}
+	}
+}
