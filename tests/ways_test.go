@@ -571,3 +571,15 @@ func TestRowsAreCopiedByCopy(t *testing.T) {
 		}
 	}
 }
+
+func TestRecordsAreReadByGotoOneBehindTheOther(t *testing.T) {
+	funcs := funcsOf(t, "l13_store.go")
+	for _, name := range []string{"Replay", "Open"} {
+		if !reaches(funcs, name, func(n ast.Node) bool {
+			b, ok := n.(*ast.BranchStmt)
+			return ok && b.Tok == token.GOTO
+		}) {
+			t.Error(name, "reads nothing by goto")
+		}
+	}
+}
