@@ -583,3 +583,43 @@ func TestRecordsAreReadByGotoOneBehindTheOther(t *testing.T) {
 		}
 	}
 }
+
+// constsWith answers the group of constants in which one stands, and its place
+// there.
+func constsWith(t *testing.T, file string, name string) ([]ast.Spec, int) {
+	t.Helper()
+	for _, d := range fileOf(t, file).Decls {
+		g, ok := d.(*ast.GenDecl)
+		if !ok || g.Tok != token.CONST {
+			continue
+		}
+		for i, s := range g.Specs {
+			if s.(*ast.ValueSpec).Names[0].Name == name {
+				return g.Specs, i
+			}
+		}
+	}
+	t.Fatal("there is no constant", name)
+	return nil, 0
+}
+
+func TestPhasesAreConstantsWithIota(t *testing.T) {
+	names := []string{"PhIdle", "PhDual", "PhFill", "PhCheck", "PhCut", "PhDone", "PhBack", "PhOver"}
+	group, first := constsWith(t, "l09_row.go", names[0])
+	values := group[first].(*ast.ValueSpec).Values
+	if len(values) != 1 {
+		t.Fatal("PhIdle has no value of its own")
+	}
+	if x, ok := values[0].(*ast.Ident); !ok || x.Name != "iota" {
+		t.Error("PhIdle is not iota")
+	}
+	for i, name := range names {
+		if first+i >= len(group) {
+			t.Fatal(name, "does not stand behind the phases ahead of it")
+		}
+		s := group[first+i].(*ast.ValueSpec)
+		if len(s.Names) != 1 || s.Names[0].Name != name || i > 0 && len(s.Values) != 0 {
+			t.Error(name, "does not go on from the phase ahead of it")
+		}
+	}
+}
