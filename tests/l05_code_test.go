@@ -259,6 +259,7 @@ func TestEachSignIsWrittenOrNot(t *testing.T) {
 // All bytes of up to three out of those at which something changes in a set, and
 // all of up to two.
 func TestShortBytesAsTheBookHasThem(t *testing.T) {
+	t.Parallel()
 	edges := "\x00A?\x7f\x80\x81\x8d\x90\x9f\xa0\xa1\xa3\xa4\xa5\xb3\xbd\xbf\xc0\xc2\xdf\xe0\xe2\xed\xef\xf0\xf3\xf4\xf6\xf7\xff"
 	for _, cs := range allSets() {
 		k := bookOf(cs)

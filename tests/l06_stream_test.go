@@ -180,6 +180,7 @@ func TestAllSignsOfEachSetInParts(t *testing.T) {
 // All bytes of up to three out of those at which something changes in a set, and
 // all of up to two.
 func TestShortPartsAsTheBookHasThem(t *testing.T) {
+	t.Parallel()
 	edges := "A\x7f\x80\x8f\x90\x9f\xa0\xa1\xa3\xa4\xa5\xbf\xc1\xc2\xdf\xe0\xed\xef\xf0\xf3\xf4\xf5\xf6\xf7\xff"
 	for _, cs := range allSets() {
 		k := bookOf(cs)
@@ -246,6 +247,7 @@ func TestASignIsCutBehindEachOfItsBytes(t *testing.T) {
 
 // Of these first bytes not all that go on may be the second; of the others all.
 func TestSecondBytesOfSignsOfToday(t *testing.T) {
+	t.Parallel()
 	for first := 0x80; first < 0x100; first++ {
 		least, last := 0x80, 0xbf
 		switch {

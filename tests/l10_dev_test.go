@@ -832,6 +832,7 @@ func devCalls() []devCall {
 }
 
 func TestDevicesStayAsTheyAre(t *testing.T) {
+	t.Parallel()
 	for _, d := range append(rightDevs(), wrongDevs()...) {
 		for _, c := range devCalls() {
 			for _, b := range []string{"", "b", strings.Repeat("b", 120), strings.Repeat("b", 121)} {

@@ -865,6 +865,7 @@ func TestAllKindsOfRecordsAsTheBooksHaveThem(t *testing.T) {
 
 // Of bytes that are turned and have their right Sum again some are records.
 func TestTurnedBytesWithARightSumAsTheBooksHaveThem(t *testing.T) {
+	t.Parallel()
 	z := shelfOf()
 	met := map[bool]int{}
 	for i, r := range someRecs() {

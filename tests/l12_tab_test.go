@@ -864,6 +864,7 @@ func (w *walk) anyRec(keys []string) impl.Rec {
 // Whatever is applied behind what, the tab is as the books have it, stays right,
 // and comes back of its records.
 func TestWhateverIsAppliedOneBehindAnother(t *testing.T) {
+	t.Parallel()
 	z := shelfOf()
 	keys := append(eightKeys(), otherKeys()...)
 	for seed := range 4 {
@@ -1087,6 +1088,7 @@ func recsInTurn() []impl.Rec {
 }
 
 func TestTabsStayAsTheyAre(t *testing.T) {
+	t.Parallel()
 	for _, x := range append(rightTabs(), wrongTabs()...) {
 		for _, r := range recsInTurn() {
 			for _, c := range tabCalls() {

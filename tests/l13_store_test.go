@@ -543,6 +543,7 @@ func TestWhatIsLaidIsAsTheBooksHaveIt(t *testing.T) {
 }
 
 func TestWhatIsOpenedIsAsTheBooksHaveIt(t *testing.T) {
+	t.Parallel()
 	z := shelfOf()
 	for _, v := range z.vaultsThatDo() {
 		for fuse := -1; fuse < 25; fuse++ {
@@ -981,6 +982,7 @@ func recsToFall() []impl.Rec {
 // What is added is there wholly, or not at all, whenever the power goes, and
 // whatever is kept then.
 func TestWhateverIsKeptARecordIsThereWhollyOrNotAtAll(t *testing.T) {
+	t.Parallel()
 	z := shelfOf()
 	for i, s := range storesToFall() {
 		for _, r := range recsToFall() {
@@ -1015,6 +1017,7 @@ func TestWhateverIsKeptARecordIsThereWhollyOrNotAtAll(t *testing.T) {
 
 // What is laid changes nothing that is known, whenever the power goes.
 func TestWhateverIsKeptWhatIsLaidIsAsItWas(t *testing.T) {
+	t.Parallel()
 	z := shelfOf()
 	for i, s := range append(storesToFall(), z.vaultAt(4, greatest()).store(), z.vaultAt(5, greatest(), asked(12)...).store()) {
 		for fuse := range 22 {
@@ -1230,6 +1233,7 @@ func TestOpenOfTheLastGeneration(t *testing.T) {
 // Whatever is done, one behind the other, and whenever the power goes, each store
 // is as the books have it, and knows what it is to know.
 func TestWhateverIsDoneAStoreIsAsTheBooksHaveIt(t *testing.T) {
+	t.Parallel()
 	z := shelfOf()
 	keys := append(eightKeys(), "b", "c", "d")
 	for seed := range 6 {
@@ -1386,6 +1390,7 @@ func storesOfAllSorts() []impl.Store {
 }
 
 func TestStoresStayAsTheyAre(t *testing.T) {
+	t.Parallel()
 	for _, s := range storesOfAllSorts() {
 		for _, r := range append(recsToFall(), impl.Rec{}, rowRec(keyed("A", newRow("é")))) {
 			for _, c := range storeCalls() {
@@ -1395,30 +1400,47 @@ func TestStoresStayAsTheyAre(t *testing.T) {
 	}
 }
 
+// checkOneMemory fails when a call writes into a store whose lists of bytes are
+// all of the same memory, or when two lists of its answer share any.
+func checkOneMemory(t *testing.T, c storeCall, phase int, text string, fuse int, gone bool) {
+	t.Helper()
+	one, whole := roomy(text)
+	before := bytes.Clone(whole)
+	row := impl.Row{Old: impl.Cell{Tag: impl.CsLat, B: one[:0]}, New: impl.Cell{B: one[:0]}, Has: both}
+	s := impl.Store{D: impl.Dev{Fuse: fuse, Down: gone}, T: tab(phase, []impl.Row{keyed("0", row), keyed("a", row)}), Gen: 8, Place: 30}
+	for range storeHas {
+		s.D.Secs = append(s.D.Secs, one)
+	}
+	got := c.call(s, rowRec(keyed("b", row)))
+	checkTextsApart(t, c.name, append(textsOf(got.D), made{x: got.T}.texts()...))
+	spoilStore(got)
+	if !bytes.Equal(whole, before) || string(s.D.Secs[61]) != text || !sameRow(s.T.Rows[1], keyed("a", row)) {
+		t.Errorf("%s of a store of one memory: it is written", c.name)
+	}
+}
+
 // All lists of bytes of a store may be of the same memory; those of what is made
 // of it are not.
 func TestStoresOfOneMemory(t *testing.T) {
 	for _, text := range []string{"", "a", headText(2, 0), headText(1, 0), recText(1, 0, phaseRec(3)), strings.Repeat("z", 20)} {
 		for _, fuse := range []int{-1, 0, 2} {
 			for _, c := range storeCalls() {
-				one, whole := roomy(text)
-				before := bytes.Clone(whole)
-				row := impl.Row{Old: impl.Cell{Tag: impl.CsLat, B: one[:0]}, New: impl.Cell{B: one[:0]}, Has: both}
-				s := impl.Store{D: impl.Dev{Fuse: fuse}, T: tab(2, []impl.Row{keyed("0", row), keyed("a", row)}), Gen: 8, Place: 30}
-				for range storeHas {
-					s.D.Secs = append(s.D.Secs, one)
-				}
-				for _, gone := range []bool{false, true} {
-					s.D.Down = gone
-					got := c.call(s, rowRec(keyed("b", row)))
-					checkTextsApart(t, c.name, append(textsOf(got.D), made{x: got.T}.texts()...))
-					spoilStore(got)
-					if !bytes.Equal(whole, before) || string(s.D.Secs[61]) != text || !sameRow(s.T.Rows[1], keyed("a", row)) {
-						t.Errorf("%s of a store of one memory: it is written", c.name)
-					}
-				}
+				checkOneMemory(t, c, 2, text, fuse, false)
+				checkOneMemory(t, c, 2, text, fuse, true)
 			}
 		}
+	}
+}
+
+// checkStoreIsNew fails when what a call answers goes with what it answered
+// ahead.
+func checkStoreIsNew(t *testing.T, c storeCall, s impl.Store, r impl.Rec) {
+	t.Helper()
+	one, two := c.call(s, r), c.call(s, r)
+	said := copiedStore(two)
+	spoilStore(one)
+	if three := c.call(s, r); !sameStore(two, said) || !sameStore(three, said) {
+		t.Errorf("%s of %s: %s, %s, not %s", c.name, told(s), told(two), told(three), told(said))
 	}
 }
 
@@ -1426,12 +1448,7 @@ func TestStoresAreNewEachTime(t *testing.T) {
 	for _, s := range storesOfAllSorts() {
 		for _, c := range storeCalls() {
 			for _, r := range recsToFall()[:2] {
-				one, two := c.call(s, r), c.call(s, r)
-				said := copiedStore(two)
-				spoilStore(one)
-				if three := c.call(s, r); !sameStore(two, said) || !sameStore(three, said) {
-					t.Errorf("%s of %s: %s, %s, not %s", c.name, told(s), told(two), told(three), told(said))
-				}
+				checkStoreIsNew(t, c, s, r)
 			}
 		}
 	}

@@ -623,3 +623,73 @@ func TestPhasesAreConstantsWithIota(t *testing.T) {
 		}
 	}
 }
+
+// errorsOf answers the types of a file that are errors, by their names.
+func errorsOf(t *testing.T, file string) map[string]bool {
+	t.Helper()
+	out := map[string]bool{}
+	for _, d := range fileOf(t, file).Decls {
+		f, ok := d.(*ast.FuncDecl)
+		if !ok || f.Recv == nil || f.Name.Name != "Error" || f.Type.Params.NumFields() != 0 {
+			continue
+		}
+		kind := f.Recv.List[0].Type
+		if p, ok := kind.(*ast.StarExpr); ok {
+			kind = p.X
+		}
+		if id, ok := kind.(*ast.Ident); ok {
+			out[id.Name] = true
+		}
+	}
+	return out
+}
+
+// asksByAs says whether a function asks by errors.As for one of these types, in a
+// variable of its own.
+func asksByAs(f *ast.FuncDecl, kinds map[string]bool) bool {
+	if f == nil {
+		return false
+	}
+	held := map[string]bool{}
+	asked := false
+	ast.Inspect(f, func(n ast.Node) bool {
+		switch x := n.(type) {
+		case *ast.ValueSpec:
+			if id, ok := x.Type.(*ast.Ident); ok && kinds[id.Name] {
+				held[x.Names[0].Name] = true
+			}
+		case *ast.CallExpr:
+			asked = asked || callsAs(x, held)
+		}
+		return true
+	})
+	return asked
+}
+
+// callsAs says whether a call is of errors.As, for one of these variables.
+func callsAs(c *ast.CallExpr, held map[string]bool) bool {
+	of, ok := c.Fun.(*ast.SelectorExpr)
+	if !ok || of.Sel.Name != "As" || len(c.Args) != 2 {
+		return false
+	}
+	if id, ok := of.X.(*ast.Ident); !ok || id.Name != "errors" {
+		return false
+	}
+	at, ok := c.Args[1].(*ast.UnaryExpr)
+	if !ok || at.Op != token.AND {
+		return false
+	}
+	id, ok := at.X.(*ast.Ident)
+	return ok && held[id.Name]
+}
+
+func TestWhatIsRefusedIsAnErrorOfItsOwnAskedForByAs(t *testing.T) {
+	funcs, kinds := funcsOf(t, "l15_node.go"), errorsOf(t, "l15_node.go")
+	for _, name := range []string{"NodeLoad", "NodeGet", "NodePut", "NodeDel"} {
+		if !reaches(funcs, name, func(n ast.Node) bool {
+			return callsOne(n, func(name string) bool { return asksByAs(funcs[name], kinds) })
+		}) {
+			t.Error(name, "asks for no error of a type of its own by errors.As")
+		}
+	}
+}
